@@ -1,0 +1,143 @@
+package rational
+
+import (
+	"strings"
+
+	"lenslet/api"
+)
+
+// Ratio is a fraction of any size in lowest terms. Its zero value is 0.
+type Ratio struct {
+	num Int
+	den natural // 1 if it is empty
+}
+
+// Fraction returns the quotient of two integers; it is 0 if the second one is 0.
+func Fraction(num, den Int) Ratio {
+	if den.Sign() == 0 {
+		return Ratio{}
+	}
+	negative := num.negative != den.negative
+	common := num.Gcd(den)
+	num, den = num.Abs(), den.Abs()
+	if common.BitLen() > 1 {
+		num, den = num.Quo(common), den.Quo(common)
+	}
+	return Ratio{signed(negative, num.magnitude), den.magnitude}
+}
+
+// Integer returns an integer as a fraction.
+func Integer(n Int) Ratio { return Ratio{num: n} }
+
+// Num returns the numerator.
+func (a Ratio) Num() Int { return a.num }
+
+// Den returns the denominator, which is above 0.
+func (a Ratio) Den() Int {
+	if len(a.den) == 0 {
+		return Whole(1)
+	}
+	return signed(false, a.den)
+}
+
+// isWhole reports whether the denominator is 1.
+func (a Ratio) isWhole() bool { return a.den.bitLen() <= 1 }
+
+// Sign returns -1, 0 or 1 for a number below, equal to or above 0.
+func (a Ratio) Sign() int { return a.num.Sign() }
+
+// Cmp compares two numbers.
+func (a Ratio) Cmp(b Ratio) int {
+	if a.Sign() != b.Sign() || a.isWhole() && b.isWhole() {
+		return a.num.Cmp(b.num)
+	}
+	return a.num.Mul(b.Den()).Cmp(b.num.Mul(a.Den()))
+}
+
+// Neg returns -a.
+func (a Ratio) Neg() Ratio { return Ratio{a.num.Neg(), a.den} }
+
+// Add returns a + b.
+func (a Ratio) Add(b Ratio) Ratio {
+	if a.isWhole() && b.isWhole() {
+		return Integer(a.num.Add(b.num))
+	}
+	return Fraction(a.num.Mul(b.Den()).Add(b.num.Mul(a.Den())), a.Den().Mul(b.Den()))
+}
+
+// Sub returns a - b.
+func (a Ratio) Sub(b Ratio) Ratio { return a.Add(b.Neg()) }
+
+// Mul returns a times b.
+func (a Ratio) Mul(b Ratio) Ratio {
+	if a.isWhole() && b.isWhole() {
+		return Integer(a.num.Mul(b.num))
+	}
+	return Fraction(a.num.Mul(b.num), a.Den().Mul(b.Den()))
+}
+
+// Div returns the quotient of a and b; it is 0 if b is 0.
+func (a Ratio) Div(b Ratio) Ratio {
+	return Fraction(a.num.Mul(b.Den()), a.Den().Mul(b.num))
+}
+
+// Floor returns the greatest integer that is not above a.
+func (a Ratio) Floor() Int { return a.num.Quo(a.Den()) }
+
+// Read returns the fraction that a number of package api stands for, or the
+// first error of the number.
+func Read(a api.Rat) (Ratio, api.Errno) {
+	digits, negative := strings.CutPrefix(string(a), "-")
+	num, den, split := strings.Cut(digits, "/")
+	switch {
+	case !isDecimal(num) || negative && num == "0":
+		return Ratio{}, api.ErrForm
+	case split && (!isDecimal(den) || den == "0" || den == "1"):
+		return Ratio{}, api.ErrForm
+	case len(num) > api.MaxDigits || len(den) > api.MaxDigits:
+		return Ratio{}, api.ErrLarge
+	}
+	numerator := signed(negative, fromDigits(num).magnitude)
+	if !split {
+		return Integer(numerator), api.OK
+	}
+	denominator := fromDigits(den)
+	if numerator.Gcd(denominator).BitLen() > 1 {
+		return Ratio{}, api.ErrForm
+	}
+	return Ratio{numerator, denominator.magnitude}, api.OK
+}
+
+// isDecimal reports whether a text is a decimal integer without leading zeros.
+func isDecimal(text string) bool {
+	if text == "" || text[0] == '0' && len(text) > 1 {
+		return false
+	}
+	for _, c := range []byte(text) {
+		if c < '0' || c > '9' {
+			return false
+		}
+	}
+	return true
+}
+
+// Write returns the number of package api that stands for a fraction, or
+// ErrLarge if it has too many digits.
+func (a Ratio) Write() (api.Rat, api.Errno) {
+	num, den := a.num.Abs(), a.Den()
+	// Four bits hold a decimal digit: a longer number need not be written out.
+	if max(num.BitLen(), den.BitLen()) > 4*api.MaxDigits {
+		return "", api.ErrLarge
+	}
+	text, below := num.String(), den.String()
+	if max(len(text), len(below)) > api.MaxDigits {
+		return "", api.ErrLarge
+	}
+	if a.Sign() < 0 {
+		text = "-" + text
+	}
+	if a.isWhole() {
+		return api.Rat(text), api.OK
+	}
+	return api.Rat(text + "/" + below), api.OK
+}

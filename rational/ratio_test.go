@@ -1,0 +1,91 @@
+package rational
+
+import (
+	"math/big"
+	"math/rand"
+	"strings"
+	"testing"
+
+	"lenslet/api"
+)
+
+func sameRatio(t *testing.T, what string, got Ratio, want *big.Rat) {
+	t.Helper()
+	sameInt(t, what, got.Num(), want.Num())
+	sameInt(t, what, got.Den(), want.Denom())
+}
+
+func randomRatio(r *rand.Rand) (Ratio, *big.Rat) {
+	num, den := int64(r.Intn(41)-20), int64(r.Intn(12)+1)
+	return Fraction(Whole(int(num)), Whole(int(den))), big.NewRat(num, den)
+}
+
+func TestFractions(t *testing.T) {
+	r := rand.New(rand.NewSource(6))
+	for range 20000 {
+		a, x := randomRatio(r)
+		b, y := randomRatio(r)
+		sameRatio(t, "Fraction", a, x)
+		sameRatio(t, "Neg", a.Neg(), new(big.Rat).Neg(x))
+		sameRatio(t, "Add", a.Add(b), new(big.Rat).Add(x, y))
+		sameRatio(t, "Sub", a.Sub(b), new(big.Rat).Sub(x, y))
+		sameRatio(t, "Mul", a.Mul(b), new(big.Rat).Mul(x, y))
+		if a.Cmp(b) != x.Cmp(y) || a.Sign() != x.Sign() {
+			t.Errorf("Cmp or Sign of %v, %v is wrong", x, y)
+		}
+		floor, _ := floorDiv(x.Num(), x.Denom())
+		sameInt(t, "Floor", a.Floor(), floor)
+		if y.Sign() != 0 {
+			sameRatio(t, "Div", a.Div(b), new(big.Rat).Quo(x, y))
+		}
+	}
+}
+
+func TestFractionEdges(t *testing.T) {
+	zero := new(big.Rat)
+	sameRatio(t, "zero value", Ratio{}, zero)
+	sameRatio(t, "zero values added", Ratio{}.Add(Ratio{}), zero)
+	sameRatio(t, "Div by 0", Integer(Whole(3)).Div(Ratio{}), zero)
+	sameRatio(t, "Fraction of 0", Fraction(Whole(3), Int{}), zero)
+	sameRatio(t, "Fraction", Fraction(Whole(-6), Whole(-4)), big.NewRat(3, 2))
+	if text, e := (Ratio{}).Write(); text != "0" || e != api.OK {
+		t.Errorf("Write of the zero value: got %q, %d", text, e)
+	}
+}
+
+func TestReadAndWrite(t *testing.T) {
+	nines := strings.Repeat("9", api.MaxDigits)
+	for _, text := range []string{"0", "-7", "3/2", "-1/10", nines, "-" + nines, "1/" + nines, "-" + nines + "/2"} {
+		a, e := Read(api.Rat(text))
+		if e != api.OK {
+			t.Errorf("Read %s: error %d", text, e)
+		}
+		if got, e := a.Write(); string(got) != text || e != api.OK {
+			t.Errorf("Write of %s: got %s, error %d", text, got, e)
+		}
+	}
+}
+
+func TestWriteTooLarge(t *testing.T) {
+	limit := Power(10, api.MaxDigits)
+	below := limit.Sub(Whole(1))
+	huge := Power(10, 5*api.MaxDigits)
+	for _, row := range []struct {
+		a Ratio
+		e api.Errno
+	}{
+		{Integer(below), api.OK},
+		{Integer(below.Neg()), api.OK},
+		{Integer(limit), api.ErrLarge},
+		{Integer(limit.Neg()), api.ErrLarge},
+		{Fraction(Whole(1), below), api.OK},
+		{Fraction(Whole(1), limit), api.ErrLarge},
+		{Integer(huge), api.ErrLarge},
+		{Fraction(Whole(-1), huge), api.ErrLarge},
+	} {
+		text, e := row.a.Write()
+		if e != row.e || e != api.OK && text != "" {
+			t.Errorf("Write: got %q, error %d, want error %d", text, e, row.e)
+		}
+	}
+}
