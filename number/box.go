@@ -2,6 +2,7 @@ package number
 
 import (
 	"lenslet/api"
+	"lenslet/lists"
 )
 
 // region is a box whose ends may have any size.
@@ -53,7 +54,7 @@ func readBox(b api.Box) (region, api.Errno) {
 func onBoxes(a, b api.Box, of func(x, y region) region) (api.Box, api.Errno) {
 	x, ex := readBox(a)
 	y, ey := readBox(b)
-	if e := firstError(ex, ey); e != api.OK {
+	if e := lists.FirstError(ex, ey); e != api.OK {
 		return api.Box{}, e
 	}
 	return of(x, y).write()
@@ -63,7 +64,7 @@ func onBoxes(a, b api.Box, of func(x, y region) region) (api.Box, api.Errno) {
 func (a region) write() (api.Box, api.Errno) {
 	re, er := a.re.write()
 	im, ei := a.im.write()
-	if e := firstError(er, ei); e != api.OK {
+	if e := lists.FirstError(er, ei); e != api.OK {
 		return api.Box{}, e
 	}
 	return api.Box{Re: re, Im: im}, api.OK

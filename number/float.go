@@ -4,6 +4,7 @@ import (
 	"math"
 
 	"lenslet/api"
+	"lenslet/lists"
 	"lenslet/rational"
 )
 
@@ -48,7 +49,7 @@ func CheckSamples(l []float32) api.Errno {
 	if len(l) > api.MaxSamples {
 		return api.ErrMany
 	}
-	return firstBad(l, checkSample)
+	return lists.FirstBad(l, checkSample)
 }
 
 func checkSample(f float32) api.Errno {

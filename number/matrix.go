@@ -4,6 +4,7 @@ import (
 	"slices"
 
 	"lenslet/api"
+	"lenslet/lists"
 	"lenslet/rational"
 )
 
@@ -12,14 +13,14 @@ func CheckMatrix(m [][]api.Rat) api.Errno {
 	if e := checkCount(len(m)); e != api.OK {
 		return e
 	}
-	return firstBad(m, func(row []api.Rat) api.Errno {
+	return lists.FirstBad(m, func(row []api.Rat) api.Errno {
 		if e := checkCount(len(row)); e != api.OK {
 			return e
 		}
 		if len(row) != len(m[0]) {
 			return api.ErrShape
 		}
-		return firstBad(row, Check)
+		return lists.FirstBad(row, Check)
 	})
 }
 
@@ -36,13 +37,13 @@ func checkCount(n int) api.Errno {
 
 // Multiply returns the product of two matrices.
 func Multiply(a, b [][]api.Rat) ([][]api.Rat, api.Errno) {
-	if e := firstError(CheckMatrix(a), CheckMatrix(b)); e != api.OK {
+	if e := lists.FirstError(CheckMatrix(a), CheckMatrix(b)); e != api.OK {
 		return nil, e
 	}
 	if len(a[0]) != len(b) {
 		return nil, api.ErrShape
 	}
-	left, right := mapped(a, readAll), mapped(b, readAll)
+	left, right := lists.Mapped(a, readAll), lists.Mapped(b, readAll)
 	return writeRows(len(a), len(b[0]), func(i, j int) rational.Ratio {
 		sum := rational.Ratio{}
 		for k, x := range left[i] {
@@ -54,7 +55,7 @@ func Multiply(a, b [][]api.Rat) ([][]api.Rat, api.Errno) {
 
 // Solve returns the only solution of linear equations.
 func Solve(m [][]api.Rat, b []api.Rat) ([]api.Rat, api.Errno) {
-	if e := firstError(CheckMatrix(m), firstBad(b, Check)); e != api.OK {
+	if e := lists.FirstError(CheckMatrix(m), lists.FirstBad(b, Check)); e != api.OK {
 		return nil, e
 	}
 	if len(b) != len(m) {
@@ -65,7 +66,7 @@ func Solve(m [][]api.Rat, b []api.Rat) ([]api.Rat, api.Errno) {
 		equations[i] = append(slices.Clone(row), b[i])
 	}
 	columns := len(m[0])
-	reduced := eliminated(mapped(equations, wholeRow))
+	reduced := eliminated(lists.Mapped(equations, wholeRow))
 	// The pivots ascend: they are in all columns but that of the right side if
 	// the last of as many pivots is in the last of these columns.
 	if len(reduced.pivots) != columns || reduced.pivots[columns-1] != columns-1 {
@@ -89,7 +90,7 @@ func Kernel(m [][]api.Rat) ([][]api.Rat, api.Errno) {
 	// beside its pivot, numbers in free columns before it alone. So the vector
 	// of a free column has its first number there.
 	columns := len(m[0])
-	rows := mapped(m, wholeRow)
+	rows := lists.Mapped(m, wholeRow)
 	for _, row := range rows {
 		slices.Reverse(row)
 	}
@@ -118,24 +119,13 @@ func Rank(m [][]api.Rat) (int, api.Errno) {
 	if e := CheckMatrix(m); e != api.OK {
 		return 0, e
 	}
-	return len(eliminated(mapped(m, wholeRow)).pivots), api.OK
-}
-
-// mapped returns the results of a function for all elements.
-func mapped[T, U any](list []T, of func(T) U) []U {
-	results := make([]U, len(list))
-	for i, element := range list {
-		results[i] = of(element)
-	}
-	return results
+	return len(eliminated(lists.Mapped(m, wholeRow)).pivots), api.OK
 }
 
 // readAll returns the fractions that numbers without errors stand for.
 func readAll(list []api.Rat) []rational.Ratio {
-	return mapped(list, func(a api.Rat) rational.Ratio {
-		x, _ := rational.Read(a)
-		return x
-	})
+	fractions, _ := rational.ReadAll(list)
+	return fractions
 }
 
 // wholeRow returns the least multiple of a row whose numbers are integers.
@@ -145,7 +135,7 @@ func wholeRow(row []api.Rat) []rational.Int {
 	for _, x := range list {
 		multiple = multiple.Mul(x.Den().Quo(multiple.Gcd(x.Den())))
 	}
-	return mapped(list, func(x rational.Ratio) rational.Int {
+	return lists.Mapped(list, func(x rational.Ratio) rational.Int {
 		return x.Num().Mul(multiple.Quo(x.Den()))
 	})
 }

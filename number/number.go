@@ -3,6 +3,7 @@ package number
 
 import (
 	"lenslet/api"
+	"lenslet/lists"
 	"lenslet/rational"
 )
 
@@ -118,28 +119,8 @@ func onNumbers(a, b api.Rat, of operation) (api.Rat, api.Errno) {
 func readTwo(a, b api.Rat) (rational.Ratio, rational.Ratio, api.Errno) {
 	x, ex := rational.Read(a)
 	y, ey := rational.Read(b)
-	if e := firstError(ex, ey); e != api.OK {
+	if e := lists.FirstError(ex, ey); e != api.OK {
 		return rational.Ratio{}, rational.Ratio{}, e
 	}
 	return x, y, api.OK
-}
-
-// firstError returns the first error of several, or OK.
-func firstError(errors ...api.Errno) api.Errno {
-	for _, e := range errors {
-		if e != api.OK {
-			return e
-		}
-	}
-	return api.OK
-}
-
-// firstBad returns the error of the first element with one, or OK.
-func firstBad[T any](list []T, check func(T) api.Errno) api.Errno {
-	for _, element := range list {
-		if e := check(element); e != api.OK {
-			return e
-		}
-	}
-	return api.OK
 }

@@ -2,6 +2,7 @@ package number
 
 import (
 	"lenslet/api"
+	"lenslet/lists"
 	"lenslet/rational"
 )
 
@@ -100,7 +101,7 @@ func readSpan(s api.Span) (interval, api.Errno) {
 func readTwoSpans(a, b api.Span) (interval, interval, api.Errno) {
 	x, ex := readSpan(a)
 	y, ey := readSpan(b)
-	if e := firstError(ex, ey); e != api.OK {
+	if e := lists.FirstError(ex, ey); e != api.OK {
 		return interval{}, interval{}, e
 	}
 	return x, y, api.OK
@@ -119,7 +120,7 @@ func onSpans(a, b api.Span, of func(x, y interval) interval) (api.Span, api.Errn
 func (a interval) write() (api.Span, api.Errno) {
 	low, el := a.low.Write()
 	high, eh := a.high.Write()
-	if e := firstError(el, eh); e != api.OK {
+	if e := lists.FirstError(el, eh); e != api.OK {
 		return api.Span{}, e
 	}
 	return api.Span{Low: low, High: high}, api.OK

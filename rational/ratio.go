@@ -4,6 +4,7 @@ import (
 	"strings"
 
 	"lenslet/api"
+	"lenslet/lists"
 )
 
 // Ratio is a fraction of any size in lowest terms. Its zero value is 0.
@@ -57,28 +58,42 @@ func (a Ratio) Cmp(b Ratio) int {
 // Neg returns -a.
 func (a Ratio) Neg() Ratio { return Ratio{a.num.Neg(), a.den} }
 
-// Add returns a + b.
+// Abs returns the absolute value.
+func (a Ratio) Abs() Ratio { return Ratio{a.num.Abs(), a.den} }
+
+// Add returns a + b. The denominator of the sum can be shortened by a divisor
+// of what the denominators have in common alone, which is short (Knuth).
 func (a Ratio) Add(b Ratio) Ratio {
 	if a.isWhole() && b.isWhole() {
 		return Integer(a.num.Add(b.num))
 	}
-	return Fraction(a.num.Mul(b.Den()).Add(b.num.Mul(a.Den())), a.Den().Mul(b.Den()))
+	common := a.Den().Gcd(b.Den())
+	left, right := a.Den().Quo(common), b.Den().Quo(common)
+	num := a.num.Mul(right).Add(b.num.Mul(left))
+	rest := num.Gcd(common)
+	return Ratio{num.Quo(rest), left.Mul(b.Den().Quo(rest)).magnitude}
 }
 
 // Sub returns a - b.
 func (a Ratio) Sub(b Ratio) Ratio { return a.Add(b.Neg()) }
 
-// Mul returns a times b.
+// Mul returns a times b. A numerator has common divisors with the denominator
+// of the other number alone.
 func (a Ratio) Mul(b Ratio) Ratio {
 	if a.isWhole() && b.isWhole() {
 		return Integer(a.num.Mul(b.num))
 	}
-	return Fraction(a.num.Mul(b.num), a.Den().Mul(b.Den()))
+	left, right := a.num.Gcd(b.Den()), b.num.Gcd(a.Den())
+	num := a.num.Quo(left).Mul(b.num.Quo(right))
+	return Ratio{num, a.Den().Quo(right).Mul(b.Den().Quo(left)).magnitude}
 }
 
 // Div returns the quotient of a and b; it is 0 if b is 0.
 func (a Ratio) Div(b Ratio) Ratio {
-	return Fraction(a.num.Mul(b.Den()), a.Den().Mul(b.num))
+	if b.Sign() == 0 {
+		return Ratio{}
+	}
+	return a.Mul(Ratio{signed(b.Sign() < 0, b.Den().magnitude), b.num.magnitude})
 }
 
 // Floor returns the greatest integer that is not above a.
@@ -106,6 +121,12 @@ func Read(a api.Rat) (Ratio, api.Errno) {
 		return Ratio{}, api.ErrForm
 	}
 	return Ratio{numerator, denominator.magnitude}, api.OK
+}
+
+// ReadAll returns the fractions that numbers stand for, or the error of the
+// first number with one.
+func ReadAll(list []api.Rat) ([]Ratio, api.Errno) {
+	return lists.Checked(list, Read)
 }
 
 // isDecimal reports whether a text is a decimal integer without leading zeros.
@@ -140,4 +161,9 @@ func (a Ratio) Write() (api.Rat, api.Errno) {
 		return api.Rat(text), api.OK
 	}
 	return api.Rat(text + "/" + below), api.OK
+}
+
+// WriteAll returns the numbers that stand for fractions, or ErrLarge.
+func WriteAll(list []Ratio) ([]api.Rat, api.Errno) {
+	return lists.Checked(list, Ratio.Write)
 }

@@ -3,6 +3,7 @@ package rational
 import (
 	"math/big"
 	"math/rand"
+	"slices"
 	"strings"
 	"testing"
 
@@ -27,6 +28,7 @@ func TestFractions(t *testing.T) {
 		b, y := randomRatio(r)
 		sameRatio(t, "Fraction", a, x)
 		sameRatio(t, "Neg", a.Neg(), new(big.Rat).Neg(x))
+		sameRatio(t, "Abs", a.Abs(), new(big.Rat).Abs(x))
 		sameRatio(t, "Add", a.Add(b), new(big.Rat).Add(x, y))
 		sameRatio(t, "Sub", a.Sub(b), new(big.Rat).Sub(x, y))
 		sameRatio(t, "Mul", a.Mul(b), new(big.Rat).Mul(x, y))
@@ -87,5 +89,62 @@ func TestWriteTooLarge(t *testing.T) {
 		if e != row.e || e != api.OK && text != "" {
 			t.Errorf("Write: got %q, error %d, want error %d", text, e, row.e)
 		}
+	}
+}
+
+// TestLongFractions has numerators and denominators of several words, with
+// common divisors across the fractions.
+func TestLongFractions(t *testing.T) {
+	r := rand.New(rand.NewSource(8))
+	factors := []*big.Int{}
+	for range 6 {
+		factors = append(factors, new(big.Int).Rand(r, new(big.Int).Lsh(big.NewInt(1), 150)))
+	}
+	some := func() *big.Int {
+		product := big.NewInt(int64(r.Intn(5) + 1))
+		for range 3 {
+			product.Mul(product, factors[r.Intn(len(factors))])
+		}
+		return product
+	}
+	for range 500 {
+		x, y := new(big.Rat).SetFrac(some(), some()), new(big.Rat).SetFrac(some(), some())
+		if r.Intn(2) == 0 {
+			x.Neg(x)
+		}
+		a, b := fromBig(x), fromBig(y)
+		sameRatio(t, "Add", a.Add(b), new(big.Rat).Add(x, y))
+		sameRatio(t, "Sub", a.Sub(b), new(big.Rat).Sub(x, y))
+		sameRatio(t, "Mul", a.Mul(b), new(big.Rat).Mul(x, y))
+		sameRatio(t, "Div", b.Div(a), new(big.Rat).Quo(y, x))
+		sameRatio(t, "Sub of itself", a.Sub(a), new(big.Rat))
+		sameRatio(t, "Div by itself", a.Div(a), big.NewRat(1, 1))
+	}
+}
+
+// fromBig returns the fraction that is equal to a rational number.
+func fromBig(x *big.Rat) Ratio {
+	num := fromDigits(new(big.Int).Abs(x.Num()).String())
+	if x.Sign() < 0 {
+		num = num.Neg()
+	}
+	return Fraction(num, fromDigits(x.Denom().String()))
+}
+
+func TestReadAllAndWriteAll(t *testing.T) {
+	numbers := []api.Rat{"1/2", "-3", "0"}
+	list, e := ReadAll(numbers)
+	if e != api.OK || len(list) != 3 {
+		t.Fatalf("ReadAll: got %v, error %d", list, e)
+	}
+	if got, e := WriteAll(list); e != api.OK || !slices.Equal(got, numbers) {
+		t.Errorf("WriteAll: got %v, error %d", got, e)
+	}
+	tooLong := "1" + strings.Repeat("0", api.MaxDigits)
+	if list, e := ReadAll([]api.Rat{"1", "2/4", api.Rat(tooLong)}); list != nil || e != api.ErrForm {
+		t.Errorf("ReadAll: got %v, error %d", list, e)
+	}
+	if got, e := WriteAll([]Ratio{{}, Integer(Power(10, api.MaxDigits))}); got != nil || e != api.ErrLarge {
+		t.Errorf("WriteAll: got %v, error %d", got, e)
 	}
 }

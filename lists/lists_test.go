@@ -1,0 +1,68 @@
+package lists
+
+import (
+	"slices"
+	"strconv"
+	"strings"
+	"testing"
+
+	"lenslet/api"
+)
+
+func TestFirstError(t *testing.T) {
+	for _, row := range []struct {
+		errors []api.Errno
+		want   api.Errno
+	}{
+		{nil, api.OK},
+		{[]api.Errno{api.OK, api.OK}, api.OK},
+		{[]api.Errno{api.OK, api.ErrRule, api.ErrForm}, api.ErrRule},
+	} {
+		if e := FirstError(row.errors...); e != row.want {
+			t.Errorf("FirstError of %v: got %d, want %d", row.errors, e, row.want)
+		}
+	}
+}
+
+func TestFirstBad(t *testing.T) {
+	check := func(n int) api.Errno { return api.Errno(n) }
+	if e := FirstBad([]int{0, 3, 5}, check); e != api.ErrRange {
+		t.Errorf("FirstBad: got %d", e)
+	}
+	if e := FirstBad([]int{0, 0}, check); e != api.OK {
+		t.Errorf("FirstBad without errors: got %d", e)
+	}
+}
+
+func TestMapped(t *testing.T) {
+	if got := Mapped([]int{3, -1, 20}, strconv.Itoa); !slices.Equal(got, []string{"3", "-1", "20"}) {
+		t.Errorf("Mapped: got %v", got)
+	}
+	if got := Mapped(nil, strconv.Itoa); len(got) != 0 {
+		t.Errorf("Mapped of no elements: got %v", got)
+	}
+}
+
+func TestChecked(t *testing.T) {
+	half := func(n int) (int, api.Errno) {
+		if n%2 != 0 {
+			return 0, api.Errno(n)
+		}
+		return n / 2, api.OK
+	}
+	if got, e := Checked([]int{4, -2, 0}, half); e != api.OK || !slices.Equal(got, []int{2, -1, 0}) {
+		t.Errorf("Checked: got %v, error %d", got, e)
+	}
+	if got, e := Checked([]int{4, 3, 5}, half); e != api.ErrRange || got != nil {
+		t.Errorf("Checked with an error: got %v, error %d", got, e)
+	}
+}
+
+func TestSum(t *testing.T) {
+	join := func(a, b string) string { return a + b }
+	for _, text := range []string{"", "a", "ab", "abc", "abcdefg"} {
+		if got := Sum(strings.Split(text, ""), join); got != text {
+			t.Errorf("Sum of the letters of %q: got %q", text, got)
+		}
+	}
+}
