@@ -12,7 +12,7 @@ func Flattened(phase []api.Rat) ([]api.Rat, api.Rat, api.Errno) {
 	if e != api.OK {
 		return nil, "", e
 	}
-	piston := mean(v)
+	piston := rational.Mean(v)
 	flat := lists.Mapped(v, func(x rational.Ratio) rational.Ratio { return x.Sub(piston) })
 	numbers, ef := rational.WriteAll(flat)
 	number, ep := piston.Write()
@@ -28,9 +28,9 @@ func Variance(phase []api.Rat) (api.Rat, api.Errno) {
 	if e != api.OK {
 		return "", e
 	}
-	piston := mean(v)
+	piston := rational.Mean(v)
 	squares := lists.Mapped(v, func(x rational.Ratio) rational.Ratio { return x.Mul(x) })
-	return mean(squares).Sub(piston.Mul(piston)).Write()
+	return rational.Mean(squares).Sub(piston.Mul(piston)).Write()
 }
 
 // Slopes returns the mean slopes of a polynomial over the cells in the pupil of a square of cells.
@@ -47,8 +47,8 @@ func Slopes(p Pupil, f Poly, corner [2]int, side int) ([2]api.Rat, api.Errno) {
 	if len(centres) == 0 {
 		return none, api.ErrNone
 	}
-	x, ex := mean(a.derivedByX().valuesAt(centres)).Write()
-	y, ey := mean(a.derivedByY().valuesAt(centres)).Write()
+	x, ex := rational.Mean(a.derivedByX().valuesAt(centres)).Write()
+	y, ey := rational.Mean(a.derivedByY().valuesAt(centres)).Write()
 	if e := lists.FirstError(ex, ey); e != api.OK {
 		return none, e
 	}

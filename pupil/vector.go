@@ -99,9 +99,3 @@ func (v vector) expanded(basis []vector) (vector, vector) {
 	}
 	return coefficients, residual
 }
-
-// mean returns the mean of at least one number.
-func mean(list []rational.Ratio) rational.Ratio {
-	count := rational.Integer(rational.Whole(len(list)))
-	return lists.Sum(list, rational.Ratio.Add).Div(count)
-}

@@ -99,6 +99,11 @@ func (a Ratio) Div(b Ratio) Ratio {
 // Floor returns the greatest integer that is not above a.
 func (a Ratio) Floor() Int { return a.num.Quo(a.Den()) }
 
+// Mean returns the mean of numbers, and 0 if there are none.
+func Mean(list []Ratio) Ratio {
+	return lists.Sum(list, Ratio.Add).Div(Integer(Whole(len(list))))
+}
+
 // Read returns the fraction that a number of package api stands for, or the
 // first error of the number.
 func Read(a api.Rat) (Ratio, api.Errno) {
