@@ -131,10 +131,7 @@ func readAll(list []api.Rat) []rational.Ratio {
 // wholeRow returns the least multiple of a row whose numbers are integers.
 func wholeRow(row []api.Rat) []rational.Int {
 	list := readAll(row)
-	multiple := rational.Whole(1)
-	for _, x := range list {
-		multiple = multiple.Mul(x.Den().Quo(multiple.Gcd(x.Den())))
-	}
+	multiple := rational.Denominator(list)
 	return lists.Mapped(list, func(x rational.Ratio) rational.Int {
 		return x.Num().Mul(multiple.Quo(x.Den()))
 	})

@@ -3,6 +3,7 @@ package pupil
 import (
 	"lenslet/api"
 	"lenslet/lists"
+	"lenslet/rational"
 )
 
 // Sampled returns the values of a polynomial at the cells in the pupil.
@@ -92,6 +93,6 @@ func readModes(modes []Poly) ([]polynomial, api.Errno) {
 }
 
 // valuesAt returns the values at some places.
-func (f polynomial) valuesAt(centres []centre) vector {
+func (f polynomial) valuesAt(centres []rational.Point) vector {
 	return lists.Mapped(centres, f.at)
 }

@@ -3,8 +3,6 @@ package pupil
 import (
 	"iter"
 
-	"lenslet/api"
-	"lenslet/lists"
 	"lenslet/rational"
 )
 
@@ -21,22 +19,6 @@ type blade struct {
 	cosine rational.Ratio
 	sine   rational.Ratio
 	half   rational.Ratio
-}
-
-// centre is the place of a cell.
-type centre struct {
-	x rational.Ratio
-	y rational.Ratio
-}
-
-// write returns the place that a centre stands for, or ErrLarge.
-func (at centre) write() (api.Place, api.Errno) {
-	x, ex := at.x.Write()
-	y, ey := at.y.Write()
-	if e := lists.FirstError(ex, ey); e != api.OK {
-		return api.Place{}, e
-	}
-	return api.Place{X: x, Y: y}, api.OK
 }
 
 // cells visits the columns and rows of the cells in the pupil, row by row.
@@ -64,8 +46,8 @@ func (g grid) cells() iter.Seq[[2]int] {
 }
 
 // centre returns the centre of a cell.
-func (g grid) centre(cell [2]int) centre {
-	return centre{g.coordinate(cell[0]), g.coordinate(cell[1])}
+func (g grid) centre(cell [2]int) rational.Point {
+	return rational.Point{X: g.coordinate(cell[0]), Y: g.coordinate(cell[1])}
 }
 
 func (g grid) coordinate(index int) rational.Ratio {
@@ -74,8 +56,8 @@ func (g grid) coordinate(index int) rational.Ratio {
 
 // centres returns the centres of the cells in the pupil that also satisfy a
 // condition.
-func (g grid) centres(condition func(cell [2]int) bool) []centre {
-	var list []centre
+func (g grid) centres(condition func(cell [2]int) bool) []rational.Point {
+	var list []rational.Point
 	for cell := range g.cells() {
 		if condition(cell) {
 			list = append(list, g.centre(cell))
@@ -85,19 +67,19 @@ func (g grid) centres(condition func(cell [2]int) bool) []centre {
 }
 
 // allCentres returns the centres of all cells in the pupil.
-func (g grid) allCentres() []centre {
+func (g grid) allCentres() []rational.Point {
 	return g.centres(func([2]int) bool { return true })
 }
 
 // discContains reports whether a place lies in the disc, and not in its hole.
-func (g grid) discContains(at centre) bool {
-	distance := at.x.Mul(at.x).Add(at.y.Mul(at.y))
+func (g grid) discContains(at rational.Point) bool {
+	distance := at.Square()
 	return distance.Cmp(g.innerSquare) >= 0 && distance.Cmp(g.outerSquare) <= 0
 }
 
 // covers reports whether a vane covers a place.
-func (b blade) covers(at centre) bool {
-	along := at.x.Mul(b.cosine).Add(at.y.Mul(b.sine))
-	across := at.y.Mul(b.cosine).Sub(at.x.Mul(b.sine))
+func (b blade) covers(at rational.Point) bool {
+	along := at.X.Mul(b.cosine).Add(at.Y.Mul(b.sine))
+	across := at.Y.Mul(b.cosine).Sub(at.X.Mul(b.sine))
 	return along.Sign() >= 0 && across.Abs().Cmp(b.half) < 0
 }

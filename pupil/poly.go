@@ -25,12 +25,11 @@ func CheckPoly(f Poly) api.Errno {
 // Value returns the value of a polynomial at a place.
 func Value(f Poly, at api.Place) (api.Rat, api.Errno) {
 	g, ef := readPoly(f)
-	x, ex := rational.Read(at.X)
-	y, ey := rational.Read(at.Y)
-	if e := lists.FirstError(ef, ex, ey); e != api.OK {
+	place, ep := rational.ReadPoint(at)
+	if e := lists.FirstError(ef, ep); e != api.OK {
 		return "", e
 	}
-	return g.at(centre{x, y}).Write()
+	return g.at(place).Write()
 }
 
 // AddPoly returns the sum of two polynomials.

@@ -140,8 +140,8 @@ func (f polynomial) turned() polynomial {
 }
 
 // at returns the value at a place.
-func (f polynomial) at(place centre) rational.Ratio {
-	x, y := powersOf(place.x, f.degree()), powersOf(place.y, f.degree())
+func (f polynomial) at(place rational.Point) rational.Ratio {
+	x, y := powersOf(place.X, f.degree()), powersOf(place.Y, f.degree())
 	values := lists.Mapped(f, func(p part) rational.Ratio { return p.c.Mul(x[p.i]).Mul(y[p.j]) })
 	return lists.Sum(values, rational.Ratio.Add)
 }

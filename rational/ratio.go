@@ -99,6 +99,32 @@ func (a Ratio) Div(b Ratio) Ratio {
 // Floor returns the greatest integer that is not above a.
 func (a Ratio) Floor() Int { return a.num.Quo(a.Den()) }
 
+// Max returns the greater one of two numbers.
+func Max(a, b Ratio) Ratio {
+	if a.Cmp(b) < 0 {
+		return b
+	}
+	return a
+}
+
+// Min returns the lesser one of two numbers.
+func Min(a, b Ratio) Ratio {
+	if a.Cmp(b) > 0 {
+		return b
+	}
+	return a
+}
+
+// Denominator returns the least common multiple of the denominators of
+// numbers; it is 1 if there are none.
+func Denominator(list []Ratio) Int {
+	multiple := Whole(1)
+	for _, x := range list {
+		multiple = multiple.Mul(x.Den().Quo(multiple.Gcd(x.Den())))
+	}
+	return multiple
+}
+
 // Mean returns the mean of numbers, and 0 if there are none.
 func Mean(list []Ratio) Ratio {
 	return lists.Sum(list, Ratio.Add).Div(Integer(Whole(len(list))))
@@ -132,6 +158,16 @@ func Read(a api.Rat) (Ratio, api.Errno) {
 // first number with one.
 func ReadAll(list []api.Rat) ([]Ratio, api.Errno) {
 	return lists.Checked(list, Read)
+}
+
+// ReadPositive returns the fraction that a number stands for which must be
+// above 0, or its first error.
+func ReadPositive(a api.Rat) (Ratio, api.Errno) {
+	x, e := Read(a)
+	if e == api.OK && x.Sign() <= 0 {
+		return Ratio{}, api.ErrRange
+	}
+	return x, e
 }
 
 // isDecimal reports whether a text is a decimal integer without leading zeros.

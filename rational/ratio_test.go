@@ -122,6 +122,51 @@ func TestLongFractions(t *testing.T) {
 	}
 }
 
+func TestMaxAndMin(t *testing.T) {
+	r := rand.New(rand.NewSource(13))
+	for range 500 {
+		a, x := randomRatio(r)
+		b, y := randomRatio(r)
+		if x.Cmp(y) < 0 {
+			x, y = y, x
+		}
+		sameRatio(t, "Max", Max(a, b), x)
+		sameRatio(t, "Min", Min(a, b), y)
+	}
+}
+
+func TestDenominator(t *testing.T) {
+	sameInt(t, "Denominator of no numbers", Denominator(nil), big.NewInt(1))
+	r := rand.New(rand.NewSource(12))
+	for range 200 {
+		var list []Ratio
+		least := big.NewInt(1)
+		for range 4 {
+			a, x := randomRatio(r)
+			list = append(list, a)
+			common := new(big.Int).GCD(nil, nil, least, x.Denom())
+			least.Mul(least, new(big.Int).Quo(x.Denom(), common))
+		}
+		sameInt(t, "Denominator", Denominator(list), least)
+	}
+}
+
+func TestReadPositive(t *testing.T) {
+	nines := api.Rat(strings.Repeat("9", api.MaxDigits))
+	for _, row := range []struct {
+		a api.Rat
+		e api.Errno
+	}{
+		{"1", api.OK}, {"1/" + nines, api.OK}, {nines, api.OK},
+		{"0", api.ErrRange}, {"-1/" + nines, api.ErrRange}, {"-1", api.ErrRange}, {"", api.ErrForm}, {"-2/4", api.ErrForm}, {"-0", api.ErrForm}, {"-" + nines + "0", api.ErrLarge},
+	} {
+		x, e := ReadPositive(row.a)
+		if e != row.e || e != api.OK && x.Sign() != 0 {
+			t.Errorf("ReadPositive of %s: got %v, error %d, want error %d", row.a, x, e, row.e)
+		}
+	}
+}
+
 // fromBig returns the fraction that is equal to a rational number.
 func fromBig(x *big.Rat) Ratio {
 	num := fromDigits(new(big.Int).Abs(x.Num()).String())
