@@ -14,6 +14,17 @@ func FirstError(errors ...api.Errno) api.Errno {
 	return api.OK
 }
 
+// CheckCount returns the error of a number of elements from 1 to a limit.
+func CheckCount(n, most int) api.Errno {
+	switch {
+	case n == 0:
+		return api.ErrEmpty
+	case n > most:
+		return api.ErrMany
+	}
+	return api.OK
+}
+
 // FirstBad returns the error of the first element with one, or OK.
 func FirstBad[T any](list []T, check func(T) api.Errno) api.Errno {
 	for _, element := range list {
@@ -60,4 +71,14 @@ func Sum[T any](list []T, add func(a, b T) T) T {
 	}
 	middle := len(list) / 2
 	return add(Sum(list[:middle], add), Sum(list[middle:], add))
+}
+
+// Dot returns the sum of the products of the elements of two lists of the same
+// length, and the zero value if there are none.
+func Dot[T any](a, b []T, times, add func(a, b T) T) T {
+	products := make([]T, len(a))
+	for i := range a {
+		products[i] = times(a[i], b[i])
+	}
+	return Sum(products, add)
 }

@@ -24,6 +24,14 @@ func TestFirstError(t *testing.T) {
 	}
 }
 
+func TestCheckCount(t *testing.T) {
+	for n, want := range map[int]api.Errno{0: api.ErrEmpty, 1: api.OK, 3: api.OK, 4: api.ErrMany, 1000: api.ErrMany} {
+		if e := CheckCount(n, 3); e != want {
+			t.Errorf("CheckCount of %d: got %d, want %d", n, e, want)
+		}
+	}
+}
+
 func TestFirstBad(t *testing.T) {
 	check := func(n int) api.Errno { return api.Errno(n) }
 	if e := FirstBad([]int{0, 3, 5}, check); e != api.ErrRange {
@@ -64,5 +72,16 @@ func TestSum(t *testing.T) {
 		if got := Sum(strings.Split(text, ""), join); got != text {
 			t.Errorf("Sum of the letters of %q: got %q", text, got)
 		}
+	}
+}
+
+func TestDot(t *testing.T) {
+	repeat := func(a, b string) string { return strings.Repeat(a, len(b)) }
+	join := func(a, b string) string { return a + b }
+	if got := Dot([]string{"a", "b", "c"}, []string{"xx", "", "x"}, repeat, join); got != "aac" {
+		t.Errorf("Dot: got %q", got)
+	}
+	if got := Dot(nil, nil, repeat, join); got != "" {
+		t.Errorf("Dot of no elements: got %q", got)
 	}
 }

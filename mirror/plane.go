@@ -118,10 +118,4 @@ func (c numbers) centred() numbers {
 }
 
 // dot returns the sum of the products of two lists of the same length.
-func (c numbers) dot(other numbers) rational.Ratio {
-	products := make(numbers, len(c))
-	for i := range c {
-		products[i] = c[i].Mul(other[i])
-	}
-	return lists.Sum(products, rational.Ratio.Add)
-}
+func (c numbers) dot(other numbers) rational.Ratio { return rational.Dot(c, other) }

@@ -86,7 +86,7 @@ func Compose(basis [][]api.Rat, coefficients []api.Rat) ([]api.Rat, api.Errno) {
 
 // readModes returns the polynomials of modes, or their first error.
 func readModes(modes []Poly) ([]polynomial, api.Errno) {
-	if e := checkCount(len(modes)); e != api.OK {
+	if e := lists.CheckCount(len(modes), api.MaxModes); e != api.OK {
 		return nil, e
 	}
 	return lists.Checked(modes, readPoly)

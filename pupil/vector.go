@@ -25,7 +25,7 @@ func readVector(list []api.Rat) (vector, api.Errno) {
 // readBasis returns the vectors of a basis, or its first error. Whether they
 // are orthogonal is not examined.
 func readBasis(basis [][]api.Rat) ([]vector, api.Errno) {
-	if e := checkCount(len(basis)); e != api.OK {
+	if e := lists.CheckCount(len(basis), api.MaxModes); e != api.OK {
 		return nil, e
 	}
 	return lists.Checked(basis, func(list []api.Rat) (vector, api.Errno) {
@@ -35,17 +35,6 @@ func readBasis(basis [][]api.Rat) ([]vector, api.Errno) {
 		}
 		return v, e
 	})
-}
-
-// checkCount returns the error of a number of modes or vectors.
-func checkCount(n int) api.Errno {
-	switch {
-	case n == 0:
-		return api.ErrEmpty
-	case n > api.MaxModes:
-		return api.ErrMany
-	}
-	return api.OK
 }
 
 // checkOrthogonal returns the error of the first vector that is 0, or not
@@ -73,13 +62,7 @@ func (v vector) isZero() bool {
 }
 
 // dot returns the inner product of two vectors of the same length.
-func (v vector) dot(w vector) rational.Ratio {
-	products := make([]rational.Ratio, len(v))
-	for i := range v {
-		products[i] = v[i].Mul(w[i])
-	}
-	return lists.Sum(products, rational.Ratio.Add)
-}
+func (v vector) dot(w vector) rational.Ratio { return rational.Dot(v, w) }
 
 // addMultiple adds c times a vector of the same length to v.
 func (v vector) addMultiple(w vector, c rational.Ratio) {

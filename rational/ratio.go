@@ -125,6 +125,26 @@ func Denominator(list []Ratio) Int {
 	return multiple
 }
 
+// Integers returns how many times numbers contain the greatest number of which
+// all of them are multiples by integers, and that number; it is 1 if all are 0.
+func Integers(list []Ratio) ([]Int, Ratio) {
+	multiple, common := Denominator(list), Int{}
+	for _, x := range list {
+		common = common.Gcd(x.num)
+	}
+	if common.Sign() == 0 {
+		common = Whole(1)
+	}
+	counts := lists.Mapped(list, func(x Ratio) Int {
+		return x.num.Quo(common).Mul(multiple.Quo(x.Den()))
+	})
+	return counts, Fraction(common, multiple)
+}
+
+// Dot returns the sum of the products of the elements of two lists of the same
+// length.
+func Dot(a, b []Ratio) Ratio { return lists.Dot(a, b, Ratio.Mul, Ratio.Add) }
+
 // Mean returns the mean of numbers, and 0 if there are none.
 func Mean(list []Ratio) Ratio {
 	return lists.Sum(list, Ratio.Add).Div(Integer(Whole(len(list))))
@@ -170,6 +190,16 @@ func ReadPositive(a api.Rat) (Ratio, api.Errno) {
 	return x, e
 }
 
+// ReadAmount returns the fraction that a number stands for which must be at
+// least 0, or its first error.
+func ReadAmount(a api.Rat) (Ratio, api.Errno) {
+	x, e := Read(a)
+	if e == api.OK && x.Sign() < 0 {
+		return Ratio{}, api.ErrRange
+	}
+	return x, e
+}
+
 // isDecimal reports whether a text is a decimal integer without leading zeros.
 func isDecimal(text string) bool {
 	if text == "" || text[0] == '0' && len(text) > 1 {
@@ -207,4 +237,21 @@ func (a Ratio) Write() (api.Rat, api.Errno) {
 // WriteAll returns the numbers that stand for fractions, or ErrLarge.
 func WriteAll(list []Ratio) ([]api.Rat, api.Errno) {
 	return lists.Checked(list, Ratio.Write)
+}
+
+// WriteMatrix returns the matrix with these numbers, or ErrLarge. The numbers
+// are asked for row by row, up to the first one that is too large.
+func WriteMatrix(rows, columns int, at func(i, j int) Ratio) ([][]api.Rat, api.Errno) {
+	m := make([][]api.Rat, rows)
+	for i := range m {
+		m[i] = make([]api.Rat, columns)
+		for j := range m[i] {
+			a, e := at(i, j).Write()
+			if e != api.OK {
+				return nil, e
+			}
+			m[i][j] = a
+		}
+	}
+	return m, api.OK
 }

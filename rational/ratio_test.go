@@ -151,6 +151,80 @@ func TestDenominator(t *testing.T) {
 	}
 }
 
+func TestIntegers(t *testing.T) {
+	r := rand.New(rand.NewSource(14))
+	for n := range 200 {
+		var list []Ratio
+		for range n % 5 {
+			a, _ := randomRatio(r)
+			list = append(list, a.Mul(Integer(Whole(3))))
+		}
+		counts, unit := Integers(list)
+		common := Int{}
+		for i, x := range list {
+			common = common.Gcd(counts[i])
+			if Integer(counts[i]).Mul(unit).Cmp(x) != 0 {
+				t.Errorf("Integers of %v: got %v in units of %v", list, counts, unit)
+			}
+		}
+		if len(counts) != len(list) || unit.Sign() <= 0 || common.Cmp(Whole(1)) > 0 {
+			t.Errorf("Integers of %v: got %v in units of %v", list, counts, unit)
+		}
+	}
+	if counts, unit := Integers(make([]Ratio, 2)); counts[0].Sign() != 0 || counts[1].Sign() != 0 || unit.Cmp(Integer(Whole(1))) != 0 {
+		t.Errorf("Integers of zeros: got %v in units of %v", counts, unit)
+	}
+}
+
+func TestDot(t *testing.T) {
+	sameRatio(t, "Dot of no numbers", Dot(nil, nil), new(big.Rat))
+	r := rand.New(rand.NewSource(15))
+	for range 200 {
+		var left, right []Ratio
+		want := new(big.Rat)
+		for range 3 {
+			a, x := randomRatio(r)
+			b, y := randomRatio(r)
+			left, right = append(left, a), append(right, b)
+			want.Add(want, x.Mul(x, y))
+		}
+		sameRatio(t, "Dot", Dot(left, right), want)
+	}
+}
+
+func TestReadAmount(t *testing.T) {
+	nines := api.Rat(strings.Repeat("9", api.MaxDigits))
+	for _, row := range []struct {
+		a api.Rat
+		e api.Errno
+	}{
+		{"0", api.OK}, {"1/" + nines, api.OK}, {nines, api.OK},
+		{"-1/" + nines, api.ErrRange}, {"-1", api.ErrRange}, {"", api.ErrForm}, {"-2/4", api.ErrForm}, {"-0", api.ErrForm}, {"-" + nines + "0", api.ErrLarge},
+	} {
+		x, e := ReadAmount(row.a)
+		if e != row.e || e != api.OK && x.Sign() != 0 {
+			t.Errorf("ReadAmount of %s: got %v, error %d, want error %d", row.a, x, e, row.e)
+		}
+	}
+}
+
+func TestWriteMatrix(t *testing.T) {
+	at := func(i, j int) Ratio { return Fraction(Whole(i), Whole(j+1)) }
+	got, e := WriteMatrix(2, 3, at)
+	want := [][]api.Rat{{"0", "0", "0"}, {"1", "1/2", "1/3"}}
+	if e != api.OK || !slices.EqualFunc(got, want, slices.Equal) {
+		t.Errorf("WriteMatrix: got %v, error %d", got, e)
+	}
+	asked := 0
+	large := func(i, j int) Ratio {
+		asked++
+		return Integer(Power(10, 300*(i+j)))
+	}
+	if got, e := WriteMatrix(3, 2, large); got != nil || e != api.ErrLarge || asked != 4 {
+		t.Errorf("WriteMatrix: got %v, error %d after %d numbers", got, e, asked)
+	}
+}
+
 func TestReadPositive(t *testing.T) {
 	nines := api.Rat(strings.Repeat("9", api.MaxDigits))
 	for _, row := range []struct {

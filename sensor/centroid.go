@@ -29,7 +29,7 @@ func Centroids(g Geometry, frame [][]float32) ([][2]api.Rat, api.Errno) {
 
 // Thresholded returns the centroids of the counts above a level.
 func Thresholded(g Geometry, frame [][]float32, level api.Rat) ([][2]api.Rat, api.Errno) {
-	threshold, e := readAmount(level)
+	threshold, e := rational.ReadAmount(level)
 	if e := lists.FirstError(CheckFrame(g, frame), e); e != api.OK {
 		return nil, e
 	}
@@ -42,7 +42,7 @@ func Thresholded(g Geometry, frame [][]float32, level api.Rat) ([][2]api.Rat, ap
 // Uncertain returns the spans of the centroid behind a lenslet, if counts have an error.
 func Uncertain(g Geometry, frame [][]float32, lenslet int, e api.Rat) ([2]api.Span, api.Errno) {
 	none := [2]api.Span{}
-	margin, em := readAmount(e)
+	margin, em := rational.ReadAmount(e)
 	if e := lists.FirstError(CheckFrame(g, frame), checkRange(lenslet, 0, g.lenslets()-1), em); e != api.OK {
 		return none, e
 	}

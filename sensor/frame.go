@@ -42,11 +42,8 @@ func Averaged(g Geometry, frames [][][]float32) ([][]float32, api.Errno) {
 }
 
 func checkFrames(g Geometry, frames [][][]float32) api.Errno {
-	switch {
-	case len(frames) == 0:
-		return api.ErrEmpty
-	case len(frames) > api.MaxFrames:
-		return api.ErrMany
+	if e := lists.CheckCount(len(frames), api.MaxFrames); e != api.OK {
+		return e
 	}
 	return lists.FirstBad(frames, func(frame [][]float32) api.Errno { return CheckFrame(g, frame) })
 }

@@ -41,7 +41,7 @@ func Spots(g Geometry, places [][2]api.Rat, flux api.Rat) ([][]float32, api.Errn
 		return nil, e
 	}
 	centres, ep := g.readPlaces(places)
-	light, ef := readAmount(flux)
+	light, ef := rational.ReadAmount(flux)
 	if e := lists.FirstError(ep, ef); e != api.OK {
 		return nil, e
 	}

@@ -1,7 +1,6 @@
 package sensor
 
 import (
-	"lenslet/api"
 	"lenslet/lists"
 	"lenslet/rational"
 )
@@ -84,15 +83,6 @@ func positivePart(x rational.Ratio) rational.Ratio {
 		return rational.Ratio{}
 	}
 	return x
-}
-
-// readAmount returns the fraction of a number that must be at least 0.
-func readAmount(a api.Rat) (rational.Ratio, api.Errno) {
-	x, e := rational.Read(a)
-	if e == api.OK && x.Sign() < 0 {
-		return rational.Ratio{}, api.ErrRange
-	}
-	return x, e
 }
 
 // inLeastFloats returns a number in units of the least float.
