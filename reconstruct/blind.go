@@ -143,8 +143,7 @@ func controlled(m matrix, form linear.Echelon) space {
 	if len(basis) == m.size()[1] {
 		return space{basis: basis}
 	}
-	weights := slices.Repeat([]rational.Ratio{one()}, m.size()[1])
-	solver, _ := linear.NewFit(basis, weights, rational.Ratio{}).Solver()
+	solver, _ := solverOf(basis, ones(m.size()[1]))
 	return space{basis, solver}
 }
 

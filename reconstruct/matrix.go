@@ -109,6 +109,9 @@ func units(n int) matrix {
 	return m
 }
 
+// ones returns a list of n numbers 1.
+func ones(n int) []rational.Ratio { return slices.Repeat([]rational.Ratio{one()}, n) }
+
 func one() rational.Ratio { return rational.Integer(rational.Whole(1)) }
 
 // isZero reports whether all numbers of a list are 0.

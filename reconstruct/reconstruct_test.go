@@ -147,6 +147,21 @@ func TestReconstructorsOfTheGreatestSize(t *testing.T) {
 	sameTable(t, "Modal", solution(t, left, right))(reconstruct.Modal(rowsFromBig(m), w, rowsFromBig(modes)))
 }
 
+// TestWeightsThatDoNotMatter has as many independent columns as slopes, so that
+// the weights, which are long, change nothing.
+func TestWeightsThatDoNotMatter(t *testing.T) {
+	d, w := full(16, 16, "1"), numbers{}
+	for i := range d {
+		d[i][i] = fromBig(big.NewRat(int64(i+2), 1))
+		w = append(w, fromBig(div(asBig(t, nines(590)+api.Rat('1'+rune(i%9))), asBig(t, tenTo(590+i/9)))))
+	}
+	want := sure[matrix](t)(reconstruct.Reconstructor(d, filled(16, "1")))
+	same(t, "Reconstructor", sure[matrix](t)(reconstruct.Reconstructor(d, w)), want)
+	same(t, "CheckReconstructor", reconstruct.CheckReconstructor(d, w, want), api.OK)
+	same(t, "Modal", sure[matrix](t)(reconstruct.Modal(d, w, rowsFromBig(identity(16, big.NewRat(1, 1))))), want)
+	fails[matrix](t, "Modal of dependent modes", api.ErrSingular)(reconstruct.Modal(d, w, full(16, 16, "1")))
+}
+
 // withWeights calls the functions of a matrix and weights.
 func withWeights(t *testing.T, d matrix, w numbers, e api.Errno) {
 	t.Helper()
