@@ -69,7 +69,7 @@ func (f Fit) Solver() (Solver, bool) {
 	for k, left := range f.left {
 		equations[k] = make([]rational.Ratio, 2*size)
 		copy(equations[k], left)
-		equations[k][size+k] = rational.Integer(rational.Whole(1))
+		equations[k][size+k] = rational.One()
 	}
 	inverse := Eliminated(equations)
 	return Solver{f, inverse}, size == 0 || inverse.Pivots[size-1] == size-1

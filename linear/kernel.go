@@ -44,7 +44,7 @@ func (k Kernel) At(i, column int) rational.Ratio {
 		return k.reversed.At(row, k.mirrored(k.Free[i])).Neg()
 	}
 	if column == k.Free[i] {
-		return rational.Integer(rational.Whole(1))
+		return rational.One()
 	}
 	return rational.Ratio{}
 }

@@ -25,6 +25,14 @@ func CheckCount(n, most int) api.Errno {
 	return api.OK
 }
 
+// CheckRange returns the error of an integer that must be in a range.
+func CheckRange(n, least, most int) api.Errno {
+	if n < least || n > most {
+		return api.ErrRange
+	}
+	return api.OK
+}
+
 // FirstBad returns the error of the first element with one, or OK.
 func FirstBad[T any](list []T, check func(T) api.Errno) api.Errno {
 	for _, element := range list {

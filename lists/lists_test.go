@@ -32,6 +32,14 @@ func TestCheckCount(t *testing.T) {
 	}
 }
 
+func TestCheckRange(t *testing.T) {
+	for n, want := range map[int]api.Errno{-1: api.ErrRange, 1: api.ErrRange, 2: api.OK, 3: api.OK, 5: api.OK, 6: api.ErrRange} {
+		if e := CheckRange(n, 2, 5); e != want {
+			t.Errorf("CheckRange of %d: got %d, want %d", n, e, want)
+		}
+	}
+}
+
 func TestFirstBad(t *testing.T) {
 	check := func(n int) api.Errno { return api.Errno(n) }
 	if e := FirstBad([]int{0, 3, 5}, check); e != api.ErrRange {

@@ -111,7 +111,7 @@ func Blend(m Mirror, a, b []api.Rat, part api.Rat) ([]api.Rat, api.Errno) {
 	d, em := readMirror(m)
 	x, ea := d.readCommand(a)
 	y, eb := d.readCommand(b)
-	share, ep := readPart(part)
+	share, ep := rational.ReadPart(part)
 	if e := lists.FirstError(em, ea, eb, ep); e != api.OK {
 		return nil, e
 	}
@@ -146,13 +146,4 @@ func Waffle(m Mirror, by api.Rat) ([]api.Rat, api.Errno) {
 		}
 	}
 	return d.completed(list).write()
-}
-
-// readPart returns the fraction of a number that must be from 0 to 1.
-func readPart(a api.Rat) (rational.Ratio, api.Errno) {
-	x, e := rational.Read(a)
-	if e == api.OK && (x.Sign() < 0 || x.Cmp(rational.Integer(rational.Whole(1))) > 0) {
-		return rational.Ratio{}, api.ErrRange
-	}
-	return x, e
 }

@@ -52,7 +52,7 @@ func (d device) newSearch(target numbers, unit rational.Ratio) *search {
 	in := func(x rational.Ratio) rational.Ratio { return x.Div(unit) }
 	s := &search{device: d, target: lists.Mapped(target, in)}
 	s.stroke, s.gap = in(d.stroke), in(d.gap)
-	most := numbers{in(rational.Integer(rational.Whole(1)))}
+	most := numbers{in(rational.One())}
 	for _, x := range s.target {
 		most = append(most, x.Abs(), s.stroke)
 	}

@@ -2,6 +2,7 @@ package number
 
 import (
 	"lenslet/api"
+	"lenslet/interval"
 	"lenslet/rational"
 )
 
@@ -11,7 +12,7 @@ func Cos(turn api.Rat, decimals int) (api.Span, api.Errno) {
 	if e != api.OK {
 		return api.Span{}, e
 	}
-	return cosine(t, decimals).write()
+	return cosine(t, decimals).Write()
 }
 
 // Sin returns a span that contains the sine of a turn.
@@ -20,7 +21,7 @@ func Sin(turn api.Rat, decimals int) (api.Span, api.Errno) {
 	if e != api.OK {
 		return api.Span{}, e
 	}
-	return sine(t, decimals).write()
+	return sine(t, decimals).Write()
 }
 
 // Turn returns a box that contains the complex number of magnitude 1 with the angle of a turn.
@@ -29,7 +30,7 @@ func Turn(turn api.Rat, decimals int) (api.Box, api.Errno) {
 	if e != api.OK {
 		return api.Box{}, e
 	}
-	return region{cosine(t, decimals), sine(t, decimals)}.write()
+	return interval.Box{Re: cosine(t, decimals), Im: sine(t, decimals)}.Write()
 }
 
 // readTurn returns a turn, or the first error of a turn and decimals.
@@ -53,18 +54,18 @@ func part(num, den int) rational.Ratio {
 }
 
 // sine returns the sine of a turn: the cosine of a quarter turn less.
-func sine(turn rational.Ratio, decimals int) interval {
+func sine(turn rational.Ratio, decimals int) interval.Interval {
 	return cosine(turn.Sub(part(1, 4)), decimals)
 }
 
 // cosine returns the cosine of a turn with decimals.
-func cosine(turn rational.Ratio, decimals int) interval {
+func cosine(turn rational.Ratio, decimals int) interval.Interval {
 	turn = turn.Sub(rational.Integer(turn.Floor()))
 	if turn.Cmp(part(1, 2)) > 0 {
 		turn = part(1, 1).Sub(turn)
 	}
 	if value, ok := exactCosine(turn); ok {
-		return single(value)
+		return interval.Single(value)
 	}
 	return decimalStep(cosineSteps(turn, decimals), decimals)
 }

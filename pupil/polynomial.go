@@ -148,7 +148,7 @@ func (f polynomial) at(place rational.Point) rational.Ratio {
 
 // powersOf returns the powers of a number from 0 on.
 func powersOf(x rational.Ratio, last int) []rational.Ratio {
-	list := []rational.Ratio{rational.Integer(rational.Whole(1))}
+	list := []rational.Ratio{rational.One()}
 	for exponent := range last {
 		list = append(list, list[exponent].Mul(x))
 	}

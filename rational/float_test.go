@@ -75,3 +75,52 @@ func TestMean(t *testing.T) {
 		sameRatio(t, "Mean", Mean(list), sum.Mul(sum, big.NewRat(1, int64(count))))
 	}
 }
+
+// someLongFloats returns the ends of the float64 numbers, and many others.
+func someLongFloats() []float64 {
+	list := []float64{0, math.Copysign(0, -1), 1, -1, 0.75, 1 << 53, math.MaxFloat64, -math.MaxFloat64, math.SmallestNonzeroFloat64, -math.SmallestNonzeroFloat64, 0x1p-1022, 0x1p-1022 - 0x1p-1074}
+	r := rand.New(rand.NewSource(11))
+	for len(list) < 2000 {
+		f := math.Float64frombits(r.Uint64())
+		if !math.IsNaN(f) && !math.IsInf(f, 0) {
+			list = append(list, f)
+		}
+	}
+	return list
+}
+
+func TestExact(t *testing.T) {
+	for _, f := range someLongFloats() {
+		exact := Exact(f)
+		sameRatio(t, "Exact", exact, new(big.Rat).SetFloat64(f))
+		got, e := exact.Float64()
+		if got != f || e != api.OK || got == 0 && math.Signbit(got) {
+			t.Errorf("Float64 of %v: got %v, error %d", f, got, e)
+		}
+	}
+}
+
+func TestFloat64(t *testing.T) {
+	r := rand.New(rand.NewSource(12))
+	for range 5000 {
+		a, x := randomRatio(r)
+		want, _ := x.Float64()
+		if got, e := a.Float64(); got != want || e != api.OK {
+			t.Errorf("Float64 of %v: got %v, error %d, want %v", x, got, e, want)
+		}
+	}
+	limit := Integer(Power(2, 1024).Sub(Power(2, 970)))
+	for _, row := range []struct {
+		a    Ratio
+		want float64
+		e    api.Errno
+	}{
+		{limit, 0, api.ErrLarge}, {limit.Neg(), 0, api.ErrLarge}, {limit.Sub(Integer(Whole(1))), math.MaxFloat64, api.OK},
+		{power(-1075), 0, api.OK}, {power(-1075).Neg(), 0, api.OK}, {power(-1075).Mul(Integer(Whole(3))), 0x1p-1073, api.OK}, {power(-1074).Neg(), -0x1p-1074, api.OK},
+	} {
+		got, e := row.a.Float64()
+		if got != row.want || e != row.e || math.Signbit(got) && got == 0 {
+			t.Errorf("Float64: got %v, error %d, want %v, error %d", got, e, row.want, row.e)
+		}
+	}
+}

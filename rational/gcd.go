@@ -1,5 +1,7 @@
 package rational
 
+import "math/bits"
+
 // gcd returns the greatest common divisor; that of 0 and a number is the number.
 func (a natural) gcd(b natural) natural {
 	if a.compare(b) < 0 {
@@ -68,11 +70,38 @@ func leading(a natural, n, shift int) uint64 {
 }
 
 // combine returns the difference of u a and v b, the lesser taken from the
-// greater.
+// greater. a has at least as many words as b.
 func combine(a, b natural, u, v uint64) natural {
-	left, right := a.mul(natural{u}), b.mul(natural{v})
-	if left.compare(right) < 0 {
-		left, right = right, left
+	difference := make(natural, len(a)+1)
+	left, right, borrow := uint64(0), uint64(0), uint64(0)
+	for i, word := range a {
+		other := uint64(0)
+		if i < len(b) {
+			other = b[i]
+		}
+		var x, y uint64
+		left, x = mulAdd(word, u, left)
+		right, y = mulAdd(other, v, right)
+		difference[i], borrow = bits.Sub64(x, y, borrow)
 	}
-	return left.sub(right)
+	difference[len(a)], borrow = bits.Sub64(left, right, borrow)
+	if borrow != 0 {
+		difference.negate()
+	}
+	return trimmed(difference)
+}
+
+// mulAdd returns both words of a b + c.
+func mulAdd(a, b, c uint64) (uint64, uint64) {
+	high, low := bits.Mul64(a, b)
+	low, carry := bits.Add64(low, c, 0)
+	return high + carry, low
+}
+
+// negate takes the number from the power of 2 that its words do not hold.
+func (a natural) negate() {
+	borrow := uint64(0)
+	for i, word := range a {
+		a[i], borrow = bits.Sub64(0, word, borrow)
+	}
 }

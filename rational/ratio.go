@@ -30,6 +30,9 @@ func Fraction(num, den Int) Ratio {
 // Integer returns an integer as a fraction.
 func Integer(n Int) Ratio { return Ratio{num: n} }
 
+// One returns 1.
+func One() Ratio { return Integer(Whole(1)) }
+
 // Num returns the numerator.
 func (a Ratio) Num() Int { return a.num }
 
@@ -195,6 +198,16 @@ func ReadPositive(a api.Rat) (Ratio, api.Errno) {
 func ReadAmount(a api.Rat) (Ratio, api.Errno) {
 	x, e := Read(a)
 	if e == api.OK && x.Sign() < 0 {
+		return Ratio{}, api.ErrRange
+	}
+	return x, e
+}
+
+// ReadPart returns the fraction that a number stands for which must be from 0
+// to 1, or its first error.
+func ReadPart(a api.Rat) (Ratio, api.Errno) {
+	x, e := ReadAmount(a)
+	if e == api.OK && x.Cmp(One()) > 0 {
 		return Ratio{}, api.ErrRange
 	}
 	return x, e

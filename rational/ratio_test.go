@@ -241,6 +241,22 @@ func TestReadPositive(t *testing.T) {
 	}
 }
 
+func TestReadPart(t *testing.T) {
+	nines, fewer := strings.Repeat("9", api.MaxDigits), strings.Repeat("9", api.MaxDigits-1)
+	for _, row := range []struct {
+		a api.Rat
+		e api.Errno
+	}{
+		{"0", api.OK}, {"1/2", api.OK}, {"1", api.OK}, {api.Rat(fewer + "8/" + nines), api.OK},
+		{api.Rat("-1/" + nines), api.ErrRange}, {"-1", api.ErrRange}, {api.Rat(nines + "/" + fewer + "8"), api.ErrRange}, {"2", api.ErrRange}, {"", api.ErrForm}, {"4/2", api.ErrForm}, {api.Rat(nines + "0"), api.ErrLarge},
+	} {
+		x, e := ReadPart(row.a)
+		if e != row.e || e != api.OK && x.Sign() != 0 {
+			t.Errorf("ReadPart of %s: got %v, error %d, want error %d", row.a, x, e, row.e)
+		}
+	}
+}
+
 // fromBig returns the fraction that is equal to a rational number.
 func fromBig(x *big.Rat) Ratio {
 	num := fromDigits(new(big.Int).Abs(x.Num()).String())

@@ -100,7 +100,7 @@ func (m matrix) isReduced() bool {
 			return false
 		}
 		column := m.column(pivot)
-		column[i] = column[i].Sub(one())
+		column[i] = column[i].Sub(rational.One())
 		if !isZero(column) {
 			return false
 		}

@@ -104,15 +104,13 @@ func units(n int) matrix {
 	m := make(matrix, n)
 	for i := range m {
 		m[i] = make([]rational.Ratio, n)
-		m[i][i] = one()
+		m[i][i] = rational.One()
 	}
 	return m
 }
 
 // ones returns a list of n numbers 1.
-func ones(n int) []rational.Ratio { return slices.Repeat([]rational.Ratio{one()}, n) }
-
-func one() rational.Ratio { return rational.Integer(rational.Whole(1)) }
+func ones(n int) []rational.Ratio { return slices.Repeat([]rational.Ratio{rational.One()}, n) }
 
 // isZero reports whether all numbers of a list are 0.
 func isZero(list []rational.Ratio) bool {

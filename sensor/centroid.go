@@ -43,7 +43,7 @@ func Thresholded(g Geometry, frame [][]float32, level api.Rat) ([][2]api.Rat, ap
 func Uncertain(g Geometry, frame [][]float32, lenslet int, e api.Rat) ([2]api.Span, api.Errno) {
 	none := [2]api.Span{}
 	margin, em := rational.ReadAmount(e)
-	if e := lists.FirstError(CheckFrame(g, frame), checkRange(lenslet, 0, g.lenslets()-1), em); e != api.OK {
+	if e := lists.FirstError(CheckFrame(g, frame), lists.CheckRange(lenslet, 0, g.lenslets()-1), em); e != api.OK {
 		return none, e
 	}
 	margin = inLeastFloats(margin)

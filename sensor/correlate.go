@@ -9,7 +9,7 @@ import (
 
 // Correlated returns the whole shift by which a template fits best behind each lenslet.
 func Correlated(g Geometry, frame, template [][]float32, most int) ([][2]int, api.Errno) {
-	e := lists.FirstError(CheckFrame(g, frame), checkTemplate(g, template), checkRange(most, 0, MaxShift))
+	e := lists.FirstError(CheckFrame(g, frame), checkTemplate(g, template), lists.CheckRange(most, 0, MaxShift))
 	if e != api.OK {
 		return nil, e
 	}

@@ -49,7 +49,7 @@ func Spots(g Geometry, places [][2]api.Rat, flux api.Rat) ([][]float32, api.Errn
 		lenslet := at[1]/g.Side*g.Columns + at[0]/g.Side
 		part := func(axis int) rational.Ratio {
 			distance := centres[lenslet][axis].Sub(coordinate(at[axis]%g.Side, g.Side)).Abs()
-			return positivePart(rational.Integer(rational.Whole(1)).Sub(distance))
+			return positivePart(rational.One().Sub(distance))
 		}
 		return light.Mul(part(0)).Mul(part(1))
 	})
